@@ -1,0 +1,1 @@
+"""Versions of rows in transactions; the calls are answered by rowstamps.store.answers."""
