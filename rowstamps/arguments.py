@@ -11,7 +11,15 @@ CALLS = {
     6: ("scan", "slot", "table", "row", "scan most"),
     7: ("point", "slot"),
     8: ("back", "slot", "k"),
+    9: ("release", "slot", "k"),
+    10: ("ready", "slot", "most"),
+    11: ("settle", "slot", "kept"),
     12: ("end", "slot"),
+    13: ("sweep",),
+    14: ("replay", "group"),
+    15: ("picture", "most"),
+    16: ("restore", "picture"),
+    17: ("told",),
 }
 
 # A kind that has no range here, k, may be any number: whether it is there is the call's own affair.
@@ -21,10 +29,12 @@ RANGES = {
     "table": (0, 63),
     "row": (0, 65535),
     "scan most": (0, 65536),
+    "most": (0, 2147483647),
+    "kept": (0, 1),
 }
 
 # These kinds are bytes, handed in with how many they are ahead of them.
-LONGEST = {"content": 16384}
+LONGEST = {"content": 16384, "group": 67108864, "picture": 67108864}
 
 
 class Reader:

@@ -12,6 +12,7 @@ class Transaction:
 
     Latest has the last change of each place, so that no look at a row walks all the changes.
     Looked has pairs of places, the first and the last of a run of rows that was looked at.
+    Net is empty until the transaction is ready, and then what ready told: settle keeps just that.
     """
 
     def __init__(self, strict, snapshot):
@@ -22,6 +23,7 @@ class Transaction:
         self.points = []
         self.looked = {}
         self.ready = False
+        self.net = []
 
 
 class Store:
@@ -84,6 +86,42 @@ def undo_changes(store, transaction, many):
     transaction.latest = {}
     for place, content in transaction.changes:
         transaction.latest[place] = content
+
+
+def close_slot(store, slot):
+    """Closes a slot that isn't closed; nothing of its transaction remains."""
+    undo_changes(store, store.slots[slot], 0)
+    store.slots[slot] = None
+
+
+def open_transactions(store):
+    return [transaction for transaction in store.slots if transaction is not None]
+
+
+def with_versions(versions, stamp, changes):
+    """These versions, and the changes as versions with the stamp; what is handed in stays as it is."""
+    more = dict(versions)
+    for place, content in changes:
+        more[place] = versions.get(place, []) + [(stamp, content)]
+    return more
+
+
+def held_by(versions):
+    held = 0
+    for pairs in versions.values():
+        for stamp, content in pairs:
+            held += weight(content)
+    return held
+
+
+def keep_versions(store, versions):
+    """Keeps these versions alone; answers False, and leaves all as it was, if they are too much to be held."""
+    held = store.held - held_by(store.versions) + held_by(versions)
+    if held > HELD_MOST:
+        return False
+    store.versions = versions
+    store.held = held
+    return True
 
 
 def look_at(transaction, first, last):

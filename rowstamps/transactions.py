@@ -1,7 +1,7 @@
-"""The calls on transactions as such: new, begin, end, point, back."""
+"""The calls on transactions as such: new, begin, end, point, back, release."""
 
 from rowstamps.limits import FULL, NO_SUCH_POINT, NOT_NOW, POINTS_MOST
-from rowstamps.state import Transaction, undo_changes
+from rowstamps.state import Transaction, close_slot, undo_changes
 
 
 def make_new(store):
@@ -17,11 +17,9 @@ def begin(store, slot, strict):
 
 
 def end(store, slot):
-    transaction = store.slots[slot]
-    if transaction is None:
+    if store.slots[slot] is None:
         return [NOT_NOW]
-    undo_changes(store, transaction, 0)
-    store.slots[slot] = None
+    close_slot(store, slot)
     return [0]
 
 
@@ -32,9 +30,20 @@ def set_point(transaction):
     return [len(transaction.points)]
 
 
+def has_point(transaction, k):
+    return 1 <= k <= len(transaction.points)
+
+
 def go_back(store, transaction, k):
-    if k < 1 or k > len(transaction.points):
+    if not has_point(transaction, k):
         return [NO_SUCH_POINT]
     undo_changes(store, transaction, transaction.points[k - 1])
     transaction.points = transaction.points[:k]
+    return [0]
+
+
+def release_point(transaction, k):
+    if not has_point(transaction, k):
+        return [NO_SUCH_POINT]
+    transaction.points = transaction.points[:k - 1]
     return [0]

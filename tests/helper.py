@@ -41,8 +41,81 @@ def back(slot, k):
     return [8, slot, k]
 
 
+def release(slot, k):
+    return [9, slot, k]
+
+
+def ready(slot, most=131071):
+    return [10, slot, most]
+
+
+def settle(slot, kept=1):
+    return [11, slot, kept]
+
+
 def end(slot):
     return [12, slot]
+
+
+def sweep():
+    return [13]
+
+
+def replay(group):
+    return [14, len(group), *group]
+
+
+def picture(most=131071):
+    return [15, most]
+
+
+def restore(shown):
+    return [16, len(shown), *shown]
+
+
+def told():
+    return [17]
+
+
+def low(number, many):
+    """A number as bytes, the lowest first."""
+    return list(number.to_bytes(many, "little"))
+
+
+def to(table, row, content):
+    """A group's change to a content."""
+    return [table, *low(row, 2), 1, *low(len(content), 4), *content]
+
+
+def gone(table, row):
+    """A group's change to gone."""
+    return [table, *low(row, 2), 0]
+
+
+def group(stamp, *changes):
+    return low(stamp, 8) + low(len(changes), 4) + sum(changes, [])
+
+
+def held_row(table, row, stamp, content):
+    """A picture's row."""
+    return [table, *low(row, 2), *low(stamp, 8), *low(len(content), 4), *content]
+
+
+def shown(last, *rows):
+    """A picture."""
+    return low(last, 8) + low(len(rows), 4) + sum(rows, [])
+
+
+def ready_with(stamp, *changes):
+    """What ready answers with a group."""
+    whole = group(stamp, *changes)
+    return [0, stamp, len(whole), *whole]
+
+
+def picture_with(last, *rows):
+    """What picture answers."""
+    whole = shown(last, *rows)
+    return [0, len(whole), *whole]
 
 
 def split(told):
@@ -103,6 +176,6 @@ def plain(store):
     for kept in store.slots:
         slots.append(None if kept is None else (
             kept.strict, kept.snapshot, list(kept.changes), list(kept.latest.items()),
-            list(kept.points), list(kept.looked), kept.ready))
+            list(kept.points), list(kept.looked), kept.ready, list(kept.net)))
     versions = [(place, list(pairs)) for place, pairs in store.versions.items()]
     return store.last, versions, slots, store.held

@@ -3,8 +3,10 @@
 import unittest
 
 from tests.helper import (
-    back, begin, change, do, end, held_anew, insert, new, plain, point, remove, scan, see, store_with)
+    back, begin, change, do, end, gone, group, held_anew, insert, new, plain, point, ready, remove, replay, restore,
+    scan, see, settle, shown, store_with, sweep, to)
 from rowstamps.state import Store
+from rowstamps.store import answer_call
 
 MOST = 33554432
 
@@ -101,6 +103,97 @@ class Full(unittest.TestCase):
         self.fill_but_for(0)
         self.assertEqual(do(self.store, end(1)), [0])
         self.assertEqual(do(self.store, insert(0, 0, [1])), [1])
+
+
+class FullBehindReplay(unittest.TestCase):
+    """Counted is what is held when the group's changes are there, and swept."""
+
+    def setUp(self):
+        self.versions = {(1, row): [(1, (0,) * 16384)] for row in range(2039)}
+        self.versions[0, 0] = [(1, (0,) * 100)]
+
+    def store(self, room, more=()):
+        """A store that has so much room left."""
+        self.versions.update(more)
+        store = store_with(self.versions, 1)
+        left = MOST - store.held - room
+        for row in range(2):
+            part = left // 2 if row == 0 else left - left // 2
+            store.versions[2 * 65536 + row] = [(1, (0,) * (part - 64))]
+        store.held = held_anew(store)
+        self.assertEqual(store.held, MOST - room)
+        return store
+
+    def refused(self, store, *changes):
+        before = plain(store)
+        self.assertEqual(do(store, replay(group(2, *changes))), [-6])
+        self.assertEqual(plain(store), before)
+
+    def test_a_new_row_fits_to_the_byte(self):
+        store = self.store(70)
+        self.refused(store, to(0, 1, [1] * 7))
+        self.assertEqual(do(store, replay(group(2, to(0, 1, [1] * 6)))), [0, 2])
+        self.assertEqual((store.held, store.last), (MOST, 2))
+
+    def test_the_version_before_it_makes_room(self):
+        store = self.store(0)
+        self.refused(store, to(0, 0, [1] * 101))
+        self.refused(store, to(0, 0, [1] * 37), to(0, 1, []))
+        self.assertEqual(do(store, replay(group(2, to(0, 0, [1] * 36), to(0, 1, [])))), [0, 2])
+        self.assertEqual(store.held, MOST)
+
+    def test_a_gone_row_makes_room(self):
+        store = self.store(0)
+        self.assertEqual(do(store, replay(group(2, gone(0, 0), to(0, 1, [1] * 100)))), [0, 2])
+        self.assertEqual(store.held, MOST)
+
+    def test_what_is_swept_elsewhere_makes_room(self):
+        store = self.store(0, {(5, 5): [(1, None)]})
+        self.refused(store, to(0, 1, [1]))
+        self.assertEqual(do(store, replay(group(2, to(0, 1, [])))), [0, 2])
+        self.assertEqual(store.held, MOST)
+
+    def test_what_is_no_group_comes_before_full(self):
+        store = self.store(0)
+        self.assertEqual(do(store, replay(group(3, to(0, 1, [])))), [-3])
+        self.assertEqual(do(store, replay(group(2, to(0, 1, []), gone(9, 9)))), [-3])
+
+
+class FullBehindRestore(unittest.TestCase):
+    """524288 rows of no bytes are as much as may be held."""
+
+    @classmethod
+    def setUpClass(cls):
+        rest = (1).to_bytes(8, "little") + bytes(4)
+        cls.rows = b"".join([bytes([place >> 16]) + (place & 65535).to_bytes(2, "little") + rest
+                             for place in range(524289)])
+
+    def picture_of(self, many):
+        return tuple((1).to_bytes(8, "little") + many.to_bytes(4, "little") + self.rows[:15 * many])
+
+    def test_just_as_much_as_may_be(self):
+        store = store_with({(63, 0): [(3, (1, 2, 3))]}, 4)
+        self.assertEqual(answer_call(store, 16, [self.picture_of(524288)]), [0, 1])
+        self.assertEqual((store.held, len(store.versions), store.last), (MOST, 524288, 1))
+
+    def test_one_row_more(self):
+        store = store_with({(63, 0): [(3, (1, 2, 3))]}, 4)
+        before = plain(store)
+        self.assertEqual(answer_call(store, 16, [self.picture_of(524289)]), [-6])
+        self.assertEqual(plain(store), before)
+
+
+class BehindEachCall(unittest.TestCase):
+    def test_commits_sweeps_and_restores(self):
+        store = Store()
+        calls = (replay(group(1, to(0, 0, [1]), to(0, 1, [2, 3]))), begin(0), change(0, 0, 0, [4, 5]), remove(0, 0, 1),
+                 insert(0, 0, [6]), begin(1), ready(0), settle(0), sweep(), change(1, 0, 0, [7]), ready(1), sweep(),
+                 begin(1), remove(1, 0, 0), ready(1), settle(1, 0), replay(group(3, gone(0, 0))), restore(shown(1)))
+        due = [131, 131, 197, 261, 326, 326, 326, 131 + 66 + 64 + 65, 326, 326 + 65, 326, 131, 131, 195, 195, 131, 65,
+               0]
+        for call, held in zip(calls, due, strict=True):
+            do(store, call)
+            self.assertEqual((store.held, held_anew(store)), (held, held), call)
 
 
 if __name__ == "__main__":

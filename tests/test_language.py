@@ -117,7 +117,34 @@ class Forms(unittest.TestCase):
                 self.assertIsNone(node.returns, where)
             else:
                 kinds = [type(part) for part in node.body if ast.get_docstring(node) is None or part != node.body[0]]
-                self.assertEqual(set(kinds), {ast.FunctionDef}, where)
+                self.assertLessEqual(set(kinds), {ast.FunctionDef}, where)
+
+    def test_a_comprehension_has_one_for_and_at_most_one_if(self):
+        for where, node in nodes(ast.ListComp):
+            self.assertEqual(len(node.generators), 1, where)
+            self.assertLessEqual(len(node.generators[0].ifs), 1, where)
+
+    def test_exponents_are_written_out(self):
+        for where, node in nodes(ast.Pow):
+            self.fail(where)
+
+    def test_a_raised_error_is_made_on_the_spot_and_own_ones_are_taken(self):
+        own = [node.name for _, node in nodes(ast.ClassDef) if node.bases]
+        for where, node in nodes(ast.Raise):
+            self.assertIsInstance(node.exc, ast.Call, where)
+            self.assertIn(node.exc.func.id, own, where)
+        for where, node in nodes(ast.ExceptHandler):
+            self.assertIn(node.type.id, own, where)
+
+    def test_no_local_is_called_like_an_import_or_a_class(self):
+        for path, text in code():
+            tree = ast.parse(text)
+            tops = [name.name for top in tree.body if isinstance(top, ast.ImportFrom) for name in top.names]
+            tops += [top.name for top in tree.body if isinstance(top, ast.ClassDef)]
+            names = [node for node in ast.walk(tree) if isinstance(node, ast.Name)]
+            stored = [node.id for node in names if isinstance(node.ctx, ast.Store)]
+            stored += [node.arg for node in ast.walk(tree) if isinstance(node, ast.arg)]
+            self.assertEqual(set(tops) & set(stored), set(), path)
 
     def test_is_stands_beside_none_true_and_false_alone(self):
         for where, node in nodes(ast.Compare):

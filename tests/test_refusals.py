@@ -3,7 +3,8 @@
 import unittest
 
 from tests.helper import (
-    ask, back, begin, change, do, end, insert, plain, point, remove, scan, see)
+    ask, back, begin, change, do, end, group, insert, picture, plain, point, ready, release, remove, replay, restore,
+    scan, see, settle, shown, to)
 from rowstamps.state import Store
 
 FAR = (-131071, 131071)
@@ -25,7 +26,8 @@ def used_store():
 
 def calls_with_slot(slot):
     return [begin(slot), insert(slot, 0, [1]), change(slot, 0, 0, [1]), remove(slot, 0, 0), see(slot, 0, 0),
-            scan(slot, 0, 0, 1), point(slot), back(slot, 1), end(slot)]
+            scan(slot, 0, 0, 1), point(slot), back(slot, 1), end(slot), release(slot, 1), ready(slot), settle(slot),
+            settle(slot, 0)]
 
 
 class Arguments(unittest.TestCase):
@@ -54,13 +56,18 @@ class Arguments(unittest.TestCase):
 
     def test_most(self):
         self.refused([scan(0, 0, 0, most) for most in MOSTS])
+        self.refused([ready(0, most) for most in (-1, -2, -131071)])
+        self.refused([picture(most) for most in (-1, -2, -131071)])
+
+    def test_kept(self):
+        self.refused([settle(slot, kept) for slot in (0, 5) for kept in SWITCHES])
 
     def test_contents(self):
         self.refused([insert(0, 0, LONG), change(0, 0, 0, LONG), change(0, 0, 1, LONG), insert(0, 0, [0] * 16500)])
 
     def test_minus_2_comes_first(self):
         self.refused([see(5, 64, 0), insert(5, 0, LONG), change(5, 0, 0, LONG), remove(5, 0, -1), scan(5, 0, 0, -1),
-                      begin(0, 2), back(16, 0), point(-1)])
+                      begin(0, 2), back(16, 0), point(-1), release(16, 0), ready(5, -1), settle(5, 2), ready(16, -1)])
 
     def test_the_answer_is_one_number(self):
         self.assertEqual(ask(begin(16), see(0, 0, 0), begin(0, 2)), [[-2], [-4], [-2]])
@@ -91,7 +98,22 @@ class NotNow(unittest.TestCase):
 
     def test_a_closed_slot_comes_before_a_point_that_is_not_there(self):
         for k in (0, 1, 64) + FAR:
-            self.assertEqual(ask(back(0, k)), [[-4]])
+            self.assertEqual(ask(back(0, k), release(0, k)), [[-4], [-4]])
+
+    def test_a_ready_transaction(self):
+        store = used_store()
+        do(store, ready(0))
+        before = plain(store)
+        for call in calls_with_slot(0)[:-5] + [release(0, 1), ready(0), ready(1), ready(2), settle(1), settle(2, 0)]:
+            self.assertEqual(do(store, call), [-4], call)
+        self.assertEqual(plain(store), before)
+
+    def test_while_a_slot_is_not_closed(self):
+        store = used_store()
+        before = plain(store)
+        for call in (replay(group(1, to(0, 0, []))), replay([]), restore(shown(1)), restore([])):
+            self.assertEqual(do(store, call), [-4], call)
+        self.assertEqual(plain(store), before)
 
     def test_begin_on_a_slot_that_is_not_closed(self):
         store = used_store()
@@ -107,6 +129,7 @@ class Others(unittest.TestCase):
         before = plain(store)
         for k in (-1, 0, 3, 64, 65) + FAR:
             self.assertEqual(do(store, back(0, k)), [-5])
+            self.assertEqual(do(store, release(0, k)), [-5])
         self.assertEqual(plain(store), before)
 
     def test_all_is_as_it_was_behind_too_many_points(self):
@@ -115,6 +138,15 @@ class Others(unittest.TestCase):
             self.assertEqual(do(store, point(0)), [k])
         before = plain(store)
         self.assertEqual(do(store, point(0)), [-6])
+        self.assertEqual(plain(store), before)
+
+    def test_all_is_as_it_was_behind_a_most_that_is_too_small(self):
+        store = used_store()
+        before = plain(store)
+        for most in (0, 12, 28):
+            self.assertEqual(do(store, ready(0, most)), [-7])
+        for most in (0, 11):
+            self.assertEqual(do(store, picture(most)), [-7])
         self.assertEqual(plain(store), before)
 
 
